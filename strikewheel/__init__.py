@@ -1,0 +1,1 @@
+"""Strikewheel: signs on a wheel, struck by turning."""
