@@ -1,5 +1,7 @@
 """Signs and words."""
 
+from strikewheel.errors import NoWord
+
 MOST_SIGNS = 80
 
 
@@ -14,3 +16,9 @@ def is_word(thing):
     if not isinstance(thing, str) or len(thing) > MOST_SIGNS:
         return False
     return all([is_sign(mark) for mark in thing])
+
+
+def need_word(word):
+    """Refuse what is no word."""
+    if not is_word(word):
+        raise NoWord("a word is a text of at most 80 small letters")

@@ -1,4 +1,7 @@
-"""Things that several test files ask about."""
+"""Things that several test files ask about, and ways of asking."""
+
+import copy
+import unittest
 
 # Every mark from the blank to the ~ that is no small letter, and line ends.
 NO_SIGNS = [chr(code) for code in range(32, 127) if not 97 <= code <= 122]
@@ -13,7 +16,87 @@ NO_TEXTS = [
     [1, True, None, "a"], [[[[["a"]]]]], ((((("a",),),),),), [("a", ["b"])],
 ]
 
+NO_WHEELS = ["", "a" * 31, "z" * 80, "a" * 81, "A", "aB", "a b", " ab", "ab ", "ab\n", "\nab", "1", "a-b", "\u00e9"]
+NO_WORDS = ["a" * 81, "a" * 4000, "A", "aB", "a b", " ab", "ab ", "ab\n", "\nab", "1", "-", "a-b", "\u00e9"]
+NO_SLACKS = [-1, 10, -2, 11, 99, -10 ** 39, 10 ** 39]
+
 
 def spoilt(mark):
     """Return texts with the mark at the beginning, inside, at the end, alone."""
     return [mark + "ab", "a" + mark + "b", "ab" + mark, mark]
+
+
+def lists_in(thing):
+    """Return every list in a thing, itself included."""
+    if not isinstance(thing, (list, tuple)):
+        return []
+    own = [thing] if isinstance(thing, list) else []
+    return own + [inner for part in thing for inner in lists_in(part)]
+
+
+def kinds(thing):
+    """Return a thing with each value in it replaced by its kind."""
+    if isinstance(thing, (list, tuple)):
+        return (type(thing), [kinds(part) for part in thing])
+    return type(thing)
+
+
+class AskingTest(unittest.TestCase):
+    """Asks, and looks whether what is handed in stays, and what is told is new."""
+
+    def assert_told(self, deed, handed, expected):
+        with self.subTest(deed=deed.__name__, handed=handed):
+            before = copy.deepcopy(handed)
+            first = deed(*handed)
+            self.assertEqual(first, expected)
+            # 1 equals True, and [] may be told where () is meant.
+            self.assertEqual(kinds(first), kinds(expected))
+            self.assertEqual((handed, kinds(handed)), (before, kinds(before)))
+            self.assert_own(first, deed, handed, expected)
+
+    def assert_own(self, first, deed, handed, expected):
+        """The lists told are the asker's own, and the answer stays the same."""
+        second = deed(*handed)
+        found = lists_in(first) + lists_in(second) + lists_in(handed)
+        told = len(lists_in(first)) + len(lists_in(second))
+        for at, one in enumerate(found[:told]):
+            self.assertFalse([other for other in found[at + 1:] if other is one])
+        for one in lists_in(first):
+            one.clear()
+        self.assertEqual(second, expected)
+        self.assertEqual(deed(*handed), expected)
+
+    def assert_refused(self, refusal, deed, *handed):
+        with self.subTest(refusal=refusal.__name__, deed=deed.__name__, handed=handed):
+            before = copy.deepcopy(handed)
+            with self.assertRaises(refusal) as caught:
+                deed(*handed)
+            self.assertIs(type(caught.exception), refusal)
+            self.assertEqual((handed, kinds(handed)), (before, kinds(before)))
+
+
+def price(turns, slack):
+    """The cost of turns, each looked at by itself as the document tells it."""
+    total = 0
+    for at, turn in enumerate(turns):
+        total += abs(turn)
+        ahead = [one for one in turns[:at] if one != 0]
+        if ahead and (ahead[-1] > 0 > turn or ahead[-1] < 0 < turn):
+            total += slack
+    return total
+
+
+def all_plans(wheel, word, place=0):
+    """All plans of a wheel for a word, gone through one by one, rising."""
+    if word == "":
+        return [[]]
+    plans = []
+    for turn in range(1 - len(wheel), len(wheel)):
+        there = place + turn
+        while there < 0:
+            there += len(wheel)
+        while there >= len(wheel):
+            there -= len(wheel)
+        if wheel[there] == word[0]:
+            plans += [[turn] + rest for rest in all_plans(wheel, word[1:], there)]
+    return plans

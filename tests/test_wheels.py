@@ -5,7 +5,7 @@ import itertools
 import string
 import unittest
 
-from samples import FOREIGN, NO_SIGNS, NO_TEXTS, spoilt
+from samples import FOREIGN, NO_SIGNS, NO_TEXTS, NO_WHEELS, spoilt
 from strikewheel.errors import NoWheel
 from strikewheel.wheels import (
     how_led, in_glass, is_wheel, kin_form, least_form, places_of, turned,
@@ -23,8 +23,6 @@ LARGE = [
     (string.ascii_lowercase + "abcd"),
 ]
 PIECES = ["ab" * 15, "ba" * 15, "cab" * 10, "bbab" * 7, "z" * 30, "acb" * 4, "dbcadbca"]
-
-NO_WHEELS = ["", "a" * 31, "z" * 80, "a" * 81, "A", "aB", "a b", " ab", "ab ", "ab\n", "\nab", "1", "a-b", "\u00e9"]
 
 
 def walk(wheel, place, steps):
