@@ -58,19 +58,19 @@ def places_at(wheel, word, at):
     return places_of(wheel, word[at - 1])
 
 
+def best_of(found):
+    """Return the least cost of pairs (cost, how many plans), and how many plans have it."""
+    least = min([total for total, plans in found])
+    return (least, sum([plans for total, plans in found if total == least]))
+
+
 def need_on(wheel, stand, turns, slack, behind):
-    """Return the least cost on from a stand, by one of the turns, and how many have it."""
-    least = None
-    many = 0
+    """Return the least cost on from a stand by one of the turns, and how many plans have it."""
+    found = []
     for turn in turns:
         rest, plans = behind[stand_behind(wheel, stand, turn)]
-        total = turn_cost(stand[1], turn, slack) + rest
-        if least is None or total < least:
-            least = total
-            many = 0
-        if total == least:
-            many += plans
-    return (least, many)
+        found.append((turn_cost(stand[1], turn, slack) + rest, plans))
+    return best_of(found)
 
 
 def row_ahead(wheel, places, sign, slack, behind):

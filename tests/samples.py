@@ -1,6 +1,7 @@
 """Things that several test files ask about, and ways of asking."""
 
 import copy
+import functools
 import unittest
 
 # Every mark from the blank to the ~ that is no small letter, and line ends.
@@ -100,3 +101,42 @@ def all_plans(wheel, word, place=0):
         if wheel[there] == word[0]:
             plans += [[turn] + rest for rest in all_plans(wheel, word[1:], there)]
     return plans
+
+
+def scrambled(signs, words, length, step):
+    """A book of words that go through the signs in a jumble, the same each time."""
+    book = []
+    at = step
+    for unused in range(words):
+        word = ""
+        for again in range(length):
+            at = (at * 1103515245 + 12345) % 2 ** 31
+            word += signs[at // 65536 % len(signs)]
+        book.append(word)
+    return book
+
+
+@functools.lru_cache(maxsize=None)
+def often(words, sign, other):
+    """How often two unlike signs stand side by side, either first, in a tuple of words."""
+    return sum(word[at:at + 2] in (sign + other, other + sign) for word in words for at in range(len(word)))
+
+
+def neighbours(book, sign, other):
+    """How often two unlike signs stand side by side, either first, in the words of a book."""
+    return often(tuple(book), sign, other)
+
+
+def cut_of(book, among):
+    """The cut of some signs, by all two signs of a book."""
+    signs = sorted(set("".join(book)))
+    inside = [sign for sign in signs if sign in among]
+    outside = [sign for sign in signs if sign not in among]
+    return sum(neighbours(book, sign, other) for sign in inside for other in outside)
+
+
+NO_BOOKS = [
+    ["a"] * 21, [""] * 21, ["ab"] * 200, ["a" * 81], ["ab", "a" * 81], ["z" * 4000], ["ab", "B"], ["a b"], ["ab\n"],
+    ["-"], ["ab"] * 19 + ["1"], ["A"] + ["ab"] * 19, ["\u00e9"], [" "],
+]
+NO_LISTS = ["", "a", "abc", (), ("a", "b"), None, True, False, 0, 7, 10 ** 39]
