@@ -116,6 +116,20 @@ def scrambled(signs, words, length, step):
     return book
 
 
+def jumble(count, low, high, step):
+    """So many whole numbers from low to high in a jumble, the same each time."""
+    numbers = []
+    at = step
+    for unused in range(count):
+        # Several draws for each, so that numbers of forty figures differ in all of them.
+        whole = 0
+        for again in range(6):
+            at = (at * 1103515245 + 12345) % 2 ** 31
+            whole = whole * 2 ** 24 + at // 128
+        numbers.append(low + whole % (high - low + 1))
+    return numbers
+
+
 @functools.lru_cache(maxsize=None)
 def often(words, sign, other):
     """How often two unlike signs stand side by side, either first, in a tuple of words."""
