@@ -103,6 +103,52 @@ def all_plans(wheel, word, place=0):
     return plans
 
 
+def plans_from(bank, places, word):
+    """All joint plans with the heads at these places at first."""
+    if word == "":
+        return [[]]
+    plans = []
+    for number, wheel in enumerate(bank):
+        for turn in range(1 - len(wheel), len(wheel)):
+            there = (places[number] + turn) % len(wheel)
+            if wheel[there] == word[0]:
+                then = places[:number] + [there] + places[number + 1:]
+                plans += [[(number, turn)] + rest for rest in plans_from(bank, then, word[1:])]
+    return plans
+
+
+def joint_price(plan):
+    """The cost of a joint plan."""
+    return sum(abs(turn) for number, turn in plan)
+
+
+def by_beginnings(bank, places, word):
+    """The least cost, the first joint plan of that cost and how many, from the beginning to the end.
+
+    It serves where there are too many plans to go through.
+    """
+    row = {tuple(places): (0, (), 1)}
+    for sign in word:
+        after = {}
+        for stand, (spent, plan, many) in row.items():
+            for number, wheel in enumerate(bank):
+                for turn in range(1 - len(wheel), len(wheel)):
+                    there = (stand[number] + turn) % len(wheel)
+                    if wheel[there] != sign:
+                        continue
+                    then = stand[:number] + (there,) + stand[number + 1:]
+                    told = (spent + abs(turn), plan + ((number, turn),))
+                    best = after.get(then)
+                    if best is None or told[0] < best[0]:
+                        after[then] = told + (many,)
+                    elif told[0] == best[0]:
+                        after[then] = (told[0], min(best[1], told[1]), best[2] + many)
+        row = after
+    least = min(found[0] for found in row.values())
+    ends = [found for found in row.values() if found[0] == least]
+    return least, list(min(plan for spent, plan, many in ends)), sum(many for spent, plan, many in ends)
+
+
 def scrambled(signs, words, length, step):
     """A book of words that go through the signs in a jumble, the same each time."""
     book = []

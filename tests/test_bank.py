@@ -3,7 +3,8 @@
 import itertools
 import unittest
 
-from samples import AskingTest, FOREIGN, NO_LISTS, NO_SIGNS, NO_WHEELS, NO_WORDS, scrambled, spoilt
+from samples import AskingTest, FOREIGN, NO_LISTS, NO_SIGNS, NO_WHEELS, NO_WORDS
+from samples import by_beginnings, joint_price, plans_from, scrambled, spoilt
 from strikewheel.bank import is_bank, joint_cost, joint_many, joint_plan
 from strikewheel.errors import Lacks, NoBank, NoWord
 from strikewheel.least import least_cost, least_plan, many_least
@@ -28,25 +29,6 @@ def joint_plans(bank, word):
     return plans_from(bank, [0] * len(bank), word)
 
 
-def plans_from(bank, places, word):
-    """All joint plans with the heads at these places at first."""
-    if word == "":
-        return [[]]
-    plans = []
-    for number, wheel in enumerate(bank):
-        for turn in range(1 - len(wheel), len(wheel)):
-            there = (places[number] + turn) % len(wheel)
-            if wheel[there] == word[0]:
-                then = places[:number] + [there] + places[number + 1:]
-                plans += [[(number, turn)] + rest for rest in plans_from(bank, then, word[1:])]
-    return plans
-
-
-def joint_price(plan):
-    """The cost of a joint plan."""
-    return sum(abs(turn) for number, turn in plan)
-
-
 def words_for(bank, most):
     """All words of at most so many signs that a bank has, while their plans are not too many."""
     signs = sorted(set("".join(bank)))
@@ -54,33 +36,6 @@ def words_for(bank, most):
     while most > 1 and turns ** most > 12000:
         most -= 1
     return ["".join(word) for count in range(most + 1) for word in itertools.product(signs, repeat=count)]
-
-
-def by_beginnings(bank, word):
-    """The least cost, the first plan of that cost and how many, from the beginning to the end.
-
-    It serves where there are too many plans to go through.
-    """
-    row = {(0,) * len(bank): (0, (), 1)}
-    for sign in word:
-        after = {}
-        for places, (spent, plan, many) in row.items():
-            for number, wheel in enumerate(bank):
-                for turn in range(1 - len(wheel), len(wheel)):
-                    there = (places[number] + turn) % len(wheel)
-                    if wheel[there] != sign:
-                        continue
-                    then = places[:number] + (there,) + places[number + 1:]
-                    told = (spent + abs(turn), plan + ((number, turn),))
-                    best = after.get(then)
-                    if best is None or told[0] < best[0]:
-                        after[then] = told + (many,)
-                    elif told[0] == best[0]:
-                        after[then] = (told[0], min(best[1], told[1]), best[2] + many)
-        row = after
-    least = min(found[0] for found in row.values())
-    ends = [found for found in row.values() if found[0] == least]
-    return least, list(min(plan for spent, plan, many in ends)), sum(many for spent, plan, many in ends)
 
 
 class IsBankTest(AskingTest):
@@ -160,7 +115,7 @@ class JointTest(AskingTest):
                 self.assertEqual(joint_cost(*told), least, told)
                 self.assertEqual(joint_plan(*told), min(cheap), told)
                 self.assertEqual(joint_many(*told), len(cheap), told)
-                self.assertEqual(by_beginnings(*told), (least, min(cheap), len(cheap)), told)
+                self.assertEqual(by_beginnings(bank, [0] * len(bank), word), (least, min(cheap), len(cheap)), told)
 
     def test_some_longer_words(self):
         for bank, word in (
@@ -190,13 +145,13 @@ class JointTest(AskingTest):
             ["ab" * 10, "abc" * 6 + "ab"], ["abcdefgh", "aeiou", "tnshrdlcum"], [ALPHABET + "abcd", "etaoinshrdluy"],
         ):
             for word in scrambled(sorted(set("".join(bank))), 2, 9, 5):
-                least, plan, many = by_beginnings(bank, word)
+                least, plan, many = by_beginnings(bank, [0] * len(bank), word)
                 self.assert_joint(bank, word, least, plan, many)
 
     def test_words_of_eighty_signs(self):
         for bank in (["abc", "cab"], ["ab", "bc", "ca"], ["abcdef", "fab"], ["aaaab", "bbb"], ["abcde"], ["a", "b"]):
             for word in scrambled(sorted(set("".join(bank))), 2, 80, 7):
-                least, plan, many = by_beginnings(bank, word)
+                least, plan, many = by_beginnings(bank, [0] * len(bank), word)
                 self.assert_joint(bank, word, least, plan, many)
 
     def test_four_hundred_stands_and_eighty_signs(self):
