@@ -178,7 +178,9 @@ class StrikeTest(StrikerTest):
             count = len(wheel)
             signs = sorted(set(wheel))
             words = ["".join(word) for most in range(4) for word in itertools.product(signs, repeat=most)]
-            starts = [[], [0]] + [[by] for by in range(1 - count, count) if by] + [[1 - count, count - 1, 0]]
+            # Every place by either way, place 0 too, and without way at first.
+            starts = [[], [0]] + [[by] for by in range(1 - count, count) if by]
+            starts += [[1 - count, count - 1, 0], [count - 1, 1 - count]]
             for ahead in starts:
                 for slack in (0, 1, 2, 5, 9):
                     for word in words:
